@@ -23,6 +23,22 @@ def turns(order, most=16):
     return [4, most, len(order)] + list(order)
 
 
+def good(given):
+    return [5, len(given)] + list(given)
+
+
+def order(given, most=16):
+    return [6, most, len(given)] + list(given)
+
+
+def group(both):
+    return [7, len(both)] + list(both)
+
+
+def eat(most=128):
+    return [8, most]
+
+
 def wishes(rows):
     """The calls by which as many people as rows are there and wish as these say."""
     return [begin(), people(len(rows))] + [wish(i, row) for i, row in enumerate(rows)]

@@ -5,28 +5,14 @@ import random
 import unittest
 
 from asking import ask, last, trade, turns, wishes
+from by_words import chance_rows, least_group
 
 LEAST = -2147483648
 HIGHEST = 2147483647
 
 
-def groups_of(size):
-    for count in range(1, size + 1):
-        yield from itertools.combinations(range(size), count)
-
-
-def does_better(rows, group, own, given):
-    """Whether the group does better by itself, as the document's words say it."""
-    for things in itertools.permutations([own[person] for person in group]):
-        ranks = [(rows[person].index(thing), rows[person].index(given[person]))
-                 for person, thing in zip(group, things)]
-        if all(new <= old for new, old in ranks) and any(new < old for new, old in ranks):
-            return True
-    return False
-
-
 def none_does_better(rows, own, given):
-    return not any(does_better(rows, group, own, given) for group in groups_of(len(rows)))
+    return least_group(rows, own, given) is None
 
 
 def is_taken_in_turn(rows, order, given):
@@ -36,10 +22,6 @@ def is_taken_in_turn(rows, order, given):
         if any(rows[person].index(given[later]) < rank for later in order[place + 1:]):
             return False
     return sorted(given) == list(range(len(rows)))
-
-
-def chance_rows(chance, size):
-    return [chance.sample(range(size), size) for _ in range(size)]
 
 
 class Trade(unittest.TestCase):

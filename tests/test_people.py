@@ -2,11 +2,16 @@
 
 import unittest
 
-from asking import ask, begin, last, people, trade, turns, wish, wishes
+from asking import ask, begin, eat, good, group, last, order, people, trade, turns, wish, wishes
 
 LEAST = -2147483648
 HIGHEST = 2147483647
-EMPTY = [[5, 0], [6, 16, 0], [7, 0], [8, 128]]
+FIT_FOR_TWO = [trade([0, 1]), turns([0, 1]), good([0, 1]), order([0, 1]), group([0, 1, 0, 1]), eat()]
+# What is refused with -1 or -2 where two people are there and their wishes are known.
+WRONG_FOR_TWO = [trade([]), trade([1, 1], 0), trade([0, 1], 1), turns([0, 1, 2]), turns([0, 1], 17),
+                 good([]), good([0, 0]), good([0, 1, 2]), order([]), order([0, 0], 0), order([0, 1], 1),
+                 order([0, 1], 17), group([]), group([0, 1]), group([0, 1, 1, 1]), group([0] * 32),
+                 eat(0), eat(7), eat(129), eat(-1)]
 
 
 class Begin(unittest.TestCase):
@@ -15,20 +20,21 @@ class Begin(unittest.TestCase):
         self.assertEqual(ask(begin(), begin()), [[0], [0]])
 
     def test_nobody_is_there_behind_it(self):
-        calls = [wish(0, [0]), trade([0]), turns([0])] + EMPTY
+        calls = [wish(0, [0]), trade([0]), turns([0]), good([0]), order([0]), group([0, 0]), eat()]
         self.assertEqual(ask(begin(), *calls), [[0]] + [[-4]] * 7)
 
     def test_rows_of_refused_calls_are_passed_over(self):
-        calls = [[5, 2, 1, 0], [6, 16, 2, 1, 0], [7, 4, 1, 0, 0, 1], [8, 128]]
-        self.assertEqual(ask(begin(), *calls, people(1)), [[0]] + [[-4]] * 4 + [[0]])
+        self.assertEqual(ask(begin(), *FIT_FOR_TWO, people(1)), [[0]] + [[-4]] * 6 + [[0]])
 
     def test_nobody_there_comes_ahead_of_all_other_refusals(self):
-        calls = [wish(-1, []), wish(7, [3, 3]), trade([], 0), trade([5, 5], 17), turns([], -1)]
-        self.assertEqual(ask(begin(), *calls), [[0]] + [[-4]] * 5)
+        calls = [wish(-1, []), wish(7, [3, 3]), turns([], -1)] + WRONG_FOR_TWO
+        for call in calls:
+            with self.subTest(call=call):
+                self.assertEqual(ask(begin(), call), [[0], [-4]])
 
     def test_sends_all_away_in_the_middle(self):
         calls = wishes([[0, 1], [0, 1]]) + [trade([1, 0]), begin()]
-        after = [wish(0, [0, 1]), trade([0, 1]), turns([0, 1])] + EMPTY
+        after = [wish(0, [0, 1])] + FIT_FOR_TWO
         self.assertEqual(ask(*calls, *after)[4:], [[2, 1, 0], [0]] + [[-4]] * 7)
 
     def test_wishes_do_not_come_back_behind_it(self):
@@ -114,24 +120,36 @@ class Wish(unittest.TestCase):
 
 
 class NotKnown(unittest.TestCase):
-    """Promise 4, as far as it bears on what has landed."""
+    """Promise 4."""
 
     def test_until_everybody_has_wished(self):
         start = [begin(), people(2)]
         first = wish(0, [0, 1])
         second = wish(1, [0, 1])
-        asked = [trade([0, 1]), turns([0, 1]), [5, 2, 0, 1], [6, 16, 2, 0, 1],
-                 [7, 4, 0, 1, 0, 1], [8, 128]]
-        for known in [[], [first], [second], [first, first]]:
+        for known in [[], [first], [second], [first, first], [first, wish(1, [1]), wish(2, [0, 1])]]:
             with self.subTest(known=known):
-                self.assertEqual(ask(*start, *known, *asked)[-6:], [[-3]] * 6)
-        self.assertEqual(ask(*start, second, first, *asked[:2])[-2:], [[2, 0, 1]] * 2)
+                self.assertEqual(ask(*start, *known, *FIT_FOR_TWO)[-6:], [[-3]] * 6)
+        told = [[2, 0, 1], [2, 0, 1], [1], [2, 0, 1], [0, 0], [8] + [1, 2] * 4]
+        self.assertEqual(ask(*start, second, first, *FIT_FOR_TWO)[-6:], told)
+
+    def test_one_of_many_is_enough(self):
+        row = list(range(5))
+        asked = [trade(row), turns(row), good(row), order(row), group(row + row), eat()]
+        for person in row:
+            with self.subTest(person=person):
+                calls = [begin(), people(5)] + [wish(i, row) for i in row if i != person]
+                self.assertEqual(ask(*calls, *asked)[-6:], [[-3]] * 6)
 
     def test_comes_ahead_of_what_follows(self):
         calls = [begin(), people(2), wish(1, [0, 1])]
-        for call in [trade([]), trade([1, 1], 0), turns([0, 1, 2]), turns([0, 1], 1)]:
+        for call in WRONG_FOR_TWO:
             with self.subTest(call=call):
                 self.assertEqual(last(calls + [call]), [-3])
+                self.assertIn(last(calls + [wish(0, [0, 1]), call]), [[-1], [-2]])
+
+    def test_wishes_anew_are_no_such_time(self):
+        calls = wishes([[0, 1], [0, 1]]) + [wish(0, [1, 0]), turns([1, 0])]
+        self.assertEqual(last(calls), [2, 1, 0])
 
 
 if __name__ == "__main__":

@@ -1,15 +1,19 @@
 """Answers the calls on one set of people who are given things by their wishes."""
 
-from wishgiving.gifts import exchanged_round, is_each_once, taken_in_turn
+from wishgiving.gifts import eaten_shares, exchanged_round, first_order, is_each_once
+from wishgiving.gifts import is_good, least_group, taken_in_turn
 
 BEGIN = 0
 PEOPLE = 1
 WISH = 2
 TRADE = 3
 TURNS = 4
+GOOD = 5
+ORDER = 6
+GROUP = 7
+EAT = 8
 
 # For each call's number: whether a whole number stands behind it, and whether a row does.
-# Those from 5 on are listed as well, since they too are refused while nobody is there.
 HAS_VALUE = (False, True, True, True, True, False, True, False, True)
 HAS_ROW = (False, False, True, True, True, True, True, True, False)
 
@@ -20,6 +24,8 @@ NOT_KNOWN = -3
 NOBODY_THERE = -4
 
 MOST_PEOPLE = 16
+MOST_EATERS = 8
+MOST_SHARE_NUMBERS = 128
 
 
 class Circle:
@@ -88,7 +94,13 @@ def answer_to(circle, number, value, row):
         return answer_trade(circle, row, value)
     if number == TURNS:
         return answer_turns(circle, row, value)
-    raise NotImplementedError(f"call {number} is not built yet")
+    if number == GOOD:
+        return answer_good(circle, row)
+    if number == ORDER:
+        return answer_order(circle, row, value)
+    if number == GROUP:
+        return answer_group(circle, row)
+    return answer_eat(circle, value)
 
 
 def answer_begin(circle):
@@ -129,6 +141,48 @@ def answer_turns(circle, order, most):
     if refusal < 0:
         return [refusal]
     return [circle.size()] + taken_in_turn(circle.wishes, order)
+
+
+def answer_good(circle, given):
+    """1 if no gift is better than this one, else 0."""
+    if not is_each_once(given, circle.size()):
+        return [WRONG]
+    if is_good(circle.wishes, given):
+        return [1]
+    return [0]
+
+
+def answer_order(circle, given, most):
+    """The first order by which the gift comes in turn, or 0 alone."""
+    if not is_each_once(given, circle.size()):
+        return [WRONG]
+    order = first_order(circle.wishes, given)
+    # For 0 alone there is room whatever most is.
+    if len(order) > room_within(most, MOST_PEOPLE):
+        return [NO_ROOM]
+    return [len(order)] + order
+
+
+def answer_group(circle, both):
+    """1 and the number of the least group that does better by itself; 0 and 0 if there is none."""
+    own = both[:circle.size()]
+    given = both[circle.size():]
+    if not is_each_once(own, circle.size()) or not is_each_once(given, circle.size()):
+        return [WRONG]
+    group = least_group(circle.wishes, own, given)
+    if group == []:
+        return [0, 0]
+    return [1, sum([1 << person for person in group])]
+
+
+def answer_eat(circle, most):
+    """How many numbers the shares have, then the shares that everybody has eaten."""
+    if circle.size() > MOST_EATERS:
+        return [WRONG]
+    shares = eaten_shares(circle.wishes)
+    if len(shares) > room_within(most, MOST_SHARE_NUMBERS):
+        return [NO_ROOM]
+    return [len(shares)] + shares
 
 
 def refusal_of(circle, row, most):
